@@ -59,6 +59,9 @@ func (r *Reader) Times(count func() int, one func()) {
 	}
 }
 
+// Left is how many bytes are left.
+func (r *Reader) Left() int { return len(r.rest) }
+
 // Done: was all read, and nothing more?
 func (r *Reader) Done() bool { return !r.fault && len(r.rest) == 0 }
 
