@@ -95,6 +95,16 @@ func MayName(s string) bool {
 
 func letter(c byte) bool { return 'A' <= c && c <= 'Z' || 'a' <= c && c <= 'z' }
 
+// Keyword: is it a keyword?
+func Keyword(s string) bool {
+	switch s {
+	case "ARRAY", "BEGIN", "CONST", "DIV", "DO", "ELSE", "ELSIF", "END", "FALSE", "IF", "IMPORT", "IN", "MOD", "MODULE", "NIL",
+		"OF", "OR", "POINTER", "PROCEDURE", "RECORD", "REPEAT", "RETURN", "THEN", "TO", "TRUE", "TYPE", "UNTIL", "VAR", "WHILE":
+		return true
+	}
+	return false
+}
+
 // MayImports: may a module of that name have these imports?
 func MayImports(own string, l []api.Import) bool {
 	names := []string{own}
