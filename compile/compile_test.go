@@ -80,7 +80,6 @@ func TestValues(t *testing.T) {
 		"HALT(a[3])":                                               "trap 1",
 		"i := -1; a[i] := 3":                                       "trap 1",
 		"i := 2; a[i] := 9; a[1] := 4; HALT(a[2] * 10 + a[i - 1])": "halt 94",
-		"i := 1; j := 2; m[i][j].i := 5; m[1][j].b := 300; HALT(m[i, 2].i)":                   "",
 		"i := 1; j := 2; m[i][j].i := 5; m[1][j].b := 300; HALT(m[1][2].i * 100 + m[i][j].b)": "halt 544",
 		"r.c := \"a\"; r.b := 7; HALT(ORD(r.c) + r.b)":                                        "halt 104",
 		"HALT(p.val)": "trap 4",
@@ -121,9 +120,6 @@ func TestValues(t *testing.T) {
 		"i := 70000; HALT(i - 140000)": "halt -70000",
 		"WHILE TRUE DO END":            "fuel",
 	} {
-		if want == "" {
-			continue
-		}
 		if got := told(t, decls, stmts); got != want {
 			t.Errorf("%s: %s, not %s", stmts, got, want)
 		}
@@ -135,7 +131,6 @@ func TestProcedures(t *testing.T) {
 	for source, want := range map[string]string{
 		"MODULE M; VAR g: INTEGER; PROCEDURE P; BEGIN g := 4 END P; BEGIN P; P(); HALT(g) END M.":                                                                   "halt 4",
 		"MODULE M; PROCEDURE F(n: INTEGER): INTEGER; VAR r: INTEGER; BEGIN IF n < 2 THEN r := 1 ELSE r := n * F(n - 1) END RETURN r END F; BEGIN HALT(F(6)) END M.": "halt 720",
-		"MODULE M; PROCEDURE P(VAR x: INTEGER; y: INTEGER); BEGIN x := x + y; y := 0 END P; VAR i: INTEGER; BEGIN END M.":                                           "",
 		"MODULE M; VAR i: INTEGER; PROCEDURE P(VAR x: INTEGER; y: INTEGER); BEGIN x := x + y; y := 0; i := i * 10 END P; BEGIN i := 3; P(i, i); HALT(i) END M.":     "halt 60",
 		"MODULE M; VAR a: ARRAY 5 OF INTEGER; PROCEDURE S(x: ARRAY OF INTEGER): INTEGER; VAR i, s: INTEGER; BEGIN WHILE i < LEN(x) DO s := s + x[i]; INC(i) END RETURN s END S; PROCEDURE Z(VAR x: ARRAY OF INTEGER); BEGIN x[0] := S(x); x[LEN(x)] := 1 END Z; BEGIN a[0] := 1; a[4] := 5; IF S(a) = 6 THEN Z(a) END END M.": "trap 1",
 		"MODULE M; TYPE R = RECORD a: INTEGER; b: ARRAY 4 OF CHAR END; VAR r: R; PROCEDURE P(r: R; VAR s: R); BEGIN s.a := 5; s.b[2] := \"q\"; HALT(r.a + ORD(r.b[2])) END P; BEGIN P(r, r) END M.":                                                                                                                           "halt 118",
@@ -152,9 +147,6 @@ func TestProcedures(t *testing.T) {
 		"MODULE M; VAR INTEGER: CHAR; BEGIN INTEGER := \"a\"; HALT(ORD(INTEGER)) END M.":                                                                                                                               "halt 97",
 		"MODULE M; VAR M: SET; BEGIN M := {3}; HALT(ORD(M)) END M.":                                                                                                                                                    "halt 8",
 	} {
-		if want == "" {
-			continue
-		}
 		if got := ended(t, source); got != want {
 			t.Errorf("%s: %s, not %s", source, got, want)
 		}
