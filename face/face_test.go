@@ -26,7 +26,7 @@ func variable(name string, r api.Ref) api.FaceObject {
 
 func sample() api.Face {
 	return api.Face{Name: "M", Imports: []api.Import{{Name: "A", Key: 1}, {Name: "B", Key: 2}, {Name: "C", Key: 0xfedcba98}},
-		Types: []api.FaceType{pointer(own(3)), {Form: api.FormArray, Length: 5, Size: 20, Base: of(3, 1)}, {Form: api.FormOpen, Base: basic(3)}, record(12, api.FaceField{Name: "n", Base: own(0)}, api.FaceField{Name: "c", Offset: 8, Base: of(1, 7)}), pointer(of(2, 0))},
+		Types:   []api.FaceType{pointer(own(3)), {Form: api.FormArray, Length: 5, Size: 20, Base: of(3, 1)}, {Form: api.FormOpen, Base: basic(3)}, record(12, api.FaceField{Name: "n", Base: own(0)}, api.FaceField{Name: "c", Offset: 8, Base: of(1, 7)}), pointer(of(2, 0))},
 		Objects: []api.FaceObject{{Class: api.ClassConst, Name: "k", Base: basic(1), Value: 1<<32 - 5}, {Class: api.ClassType, Name: "T", Base: own(3)}, {Class: api.ClassVar, Name: "v", Base: own(1), Value: 8}, {Class: api.ClassProc, Name: "P", Value: 2, Params: []api.FaceParam{{Var: true, Base: own(2)}, {Base: of(3, 1)}}}, {Class: api.ClassProc, Name: "Q", Base: basic(2), Value: 1}}}
 }
 
