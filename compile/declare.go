@@ -134,11 +134,6 @@ func (c *compiler) declarations(p *procedure) {
 	}
 }
 
-// fixJump lets a jump go to the next word.
-func (c *compiler) fixJump(at int) {
-	c.code[at] = c.code[at]&^jumpMask | uint32(c.pc()-at-1)&jumpMask
-}
-
 // begins tells where a procedure begins.
 func (c *compiler) begins(p *procedure) {
 	c.places[p.thing] = p.entry

@@ -27,6 +27,7 @@ const (
 const (
 	jumpMask   = 1<<24 - 1
 	unrolled   = 8 // so many words are made noughts one by one
+	fewPushed  = 2 // so many registers are pushed and popped on the spot
 	immLeast   = -65536
 	immMost    = 65535
 	wordBytes  = 4
@@ -61,8 +62,10 @@ type gen struct {
 	mark   func(int) // does not come back
 	code   []uint32
 	fixups []api.Fixup
-	rh     int // registers below it are in use
-	frame  int // bytes that were pushed on the stack since the procedure began
+	rh     int                    // registers below it are in use
+	frame  int                    // bytes that were pushed on the stack since the procedure began
+	pushes [api.Registers + 1]int // where so many registers are pushed, for all to call; 0: nowhere as yet
+	pops   [api.Registers + 1]int
 }
 
 func wrap(n int) int { return int(int32(n)) }
@@ -466,11 +469,10 @@ func (g *gen) index(x, y *item, length, size int) {
 // prepare pushes the registers that are in use, ahead of a call.
 func (g *gen) prepare() int {
 	k := g.rh
-	if k > 0 {
-		g.im(api.OpSub, stack, stack, wordBytes*k)
-		for i := range k {
-			g.store32(i, stack, wordBytes*i)
-		}
+	if k > fewPushed {
+		g.share(&g.pushes[k], k, g.push)
+	} else if k > 0 {
+		g.push(k)
 	}
 	g.frame += wordBytes * k
 	g.rh = 0
@@ -483,13 +485,49 @@ func (g *gen) resume(k int, x *item) {
 	x.r = g.take()
 	if k > 0 {
 		g.reg(api.OpMov, x.r, 0, 0)
-		for i := range k {
-			g.load32(i, stack, wordBytes*i)
-		}
-		g.im(api.OpAdd, stack, stack, wordBytes*k)
+	}
+	if k > fewPushed {
+		g.share(&g.pops[k], k, g.pop)
+	} else if k > 0 {
+		g.pop(k)
 	}
 	g.frame -= wordBytes * k
 	x.mode = modeReg
+}
+
+func (g *gen) push(k int) {
+	g.im(api.OpSub, stack, stack, wordBytes*k)
+	for i := range k {
+		g.store32(i, stack, wordBytes*i)
+	}
+}
+
+func (g *gen) pop(k int) {
+	for i := range k {
+		g.load32(i, stack, wordBytes*i)
+	}
+	g.im(api.OpAdd, stack, stack, wordBytes*k)
+}
+
+// share calls what does something for so many registers, and makes it at first, so that many calls need few words.
+func (g *gen) share(place *int, k int, do func(int)) {
+	if *place == 0 {
+		over := g.pc()
+		g.branch(condT, 0)
+		*place = g.pc()
+		do(k)
+		g.back()
+		g.fixJump(over)
+	}
+	g.call(*place - g.pc() - 1)
+}
+
+// back goes back to where a call came from.
+func (g *gen) back() { g.put(api.Ins{Form: api.FormTo, Cond: condT, C: link}) }
+
+// fixJump lets one jump go to the next word.
+func (g *gen) fixJump(at int) {
+	g.code[at] = g.code[at]&^jumpMask | uint32(g.pc()-at-1)&jumpMask
 }
 
 // enter begins a procedure: its parameters, so many words, and its variables.
@@ -527,5 +565,5 @@ func (g *gen) zeros(first, bytes int) {
 func (g *gen) leave(words, bytes int) {
 	g.load32(link, stack, 0)
 	g.im(api.OpAdd, stack, stack, linkBytes+wordBytes*words+bytes)
-	g.put(api.Ins{Form: api.FormTo, Cond: condT, C: link})
+	g.back()
 }

@@ -21,6 +21,7 @@ CONST
   negate = 8;
 
   scratch* = 12; stack = 14; link = 15;
+  fewPushed = 2; (* registers that are pushed and popped on the spot *)
   registers* = 12; maxCode = 16384; maxFixups = 8192;
   jumps = 1000000H; halves = 10000H; offsets = 100000H;
   callNew* = 17; callOld* = 18; callFresh* = 19;
@@ -36,6 +37,7 @@ VAR
   fixups*: INTEGER;
   rh*: INTEGER; (* registers below it are in use *)
   frame: INTEGER; (* bytes that were pushed on the stack since the procedure began *)
+  pushes, pops: ARRAY 13 OF INTEGER; (* where so many registers are pushed, popped, for all to call; 0: nowhere as yet *)
 
 PROCEDURE put(w: INTEGER);
 BEGIN
@@ -476,14 +478,47 @@ BEGIN
   END
 END Index;
 
+PROCEDURE back;
+BEGIN
+  put(0C0000000H + LSL(always, 24) + link)
+END back;
+
+PROCEDURE push(k: INTEGER);
+  VAR i: INTEGER;
+BEGIN
+  Im(sub, stack, stack, 4 * k);
+  WHILE i < k DO store32(i, stack, 4 * i); INC(i) END
+END push;
+
+PROCEDURE pop(k: INTEGER);
+  VAR i: INTEGER;
+BEGIN
+  WHILE i < k DO load32(i, stack, 4 * i); INC(i) END;
+  Im(add, stack, stack, 4 * k)
+END pop;
+
+(* share calls what pushes or pops so many registers, and makes it at first, so that many calls need few words. *)
+PROCEDURE share(VAR place: INTEGER; k: INTEGER; pushes: BOOLEAN);
+  VAR over: INTEGER;
+BEGIN
+  IF place = 0 THEN
+    over := pc;
+    Branch(always, 0);
+    place := pc;
+    IF pushes THEN push(k) ELSE pop(k) END;
+    back;
+    FixJump(over)
+  END;
+  Call(place - pc - 1)
+END share;
+
 (* Prepare pushes the registers that are in use, ahead of a call. *)
 PROCEDURE Prepare*(): INTEGER;
-  VAR k, i: INTEGER;
+  VAR k: INTEGER;
 BEGIN
   k := rh;
-  IF k > 0 THEN
-    Im(sub, stack, stack, 4 * k);
-    WHILE i < k DO store32(i, stack, 4 * i); INC(i) END
+  IF k > fewPushed THEN share(pushes[k], k, TRUE)
+  ELSIF k > 0 THEN push(k)
   END;
   INC(frame, 4 * k);
   rh := 0
@@ -492,14 +527,12 @@ END Prepare;
 
 (* Resume pops them again; a call's answer stands behind them. *)
 PROCEDURE Resume*(k: INTEGER; VAR x: Item);
-  VAR i: INTEGER;
 BEGIN
   rh := k;
   x.r := Take();
-  IF k > 0 THEN
-    Reg(mov, x.r, 0, 0);
-    WHILE i < k DO load32(i, stack, 4 * i); INC(i) END;
-    Im(add, stack, stack, 4 * k)
+  IF k > 0 THEN Reg(mov, x.r, 0, 0) END;
+  IF k > fewPushed THEN share(pops[k], k, FALSE)
+  ELSIF k > 0 THEN pop(k)
   END;
   DEC(frame, 4 * k);
   x.mode := reg
@@ -532,7 +565,7 @@ PROCEDURE Leave*(words, bytes: INTEGER);
 BEGIN
   load32(link, stack, 0);
   Im(add, stack, stack, 4 + 4 * words + bytes);
-  put(0C0000000H + LSL(always, 24) + link)
+  back
 END Leave;
 
 END Gen.
