@@ -545,6 +545,59 @@ func (r *random) procedure(nested int) {
 	r.procs = append(r.procs, p)
 }
 
+// begin lets pointers point to something, and riders be there.
+func (r *random) begin() {
+	for _, v := range r.vars {
+		if v.typ.ptr && !v.fixed && !v.open {
+			r.put("NEW(", v.name, ");\n")
+			if f := v.typ.base.fields[0]; f.typ == v.typ && r.n(2) == 0 {
+				r.put("NEW(", v.name, ".next); ", v.name, ".next.next := ", v.name, ";\n")
+			}
+		}
+		if v.typ == integer && !v.fixed && r.n(2) == 0 {
+			r.put(v.name, " := FRESH(\"f1\"); REGISTER(", v.name, "); WRITEW(", v.name, ", ", v.name, ");\n")
+		}
+	}
+}
+
+// tell writes what the module's variables hold.
+func (r *random) tell(name string) {
+	rider := ""
+	for _, v := range r.vars {
+		if v.typ == integer && !v.fixed && v.level == 0 {
+			rider = v.name
+		}
+	}
+	r.put(";\n", rider, " := FRESH(\"", name, "\"); REGISTER(", rider, ")")
+	for _, v := range r.vars {
+		if !v.fixed && v.level == 0 {
+			r.tellVar(rider, v.name, v.typ, 3)
+		}
+	}
+}
+
+func (r *random) tellVar(rider, text string, t *rtype, deep int) {
+	switch {
+	case deep == 0:
+	case t.basic != "":
+		r.put(";\nWRITEW(", rider, ", ORD(", text, "))")
+	case t.ptr:
+		r.put(";\nIF ", text, " # NIL THEN WRITE(", rider, ", 1)")
+		for _, f := range t.base.fields {
+			r.tellVar(rider, text+"."+f.name, f.typ, deep-1)
+		}
+		r.put(" END")
+	case len(t.fields) > 0:
+		for _, f := range t.fields {
+			r.tellVar(rider, text+"."+f.name, f.typ, deep-1)
+		}
+	default:
+		for i := range t.length {
+			r.tellVar(rider, text+"["+strconv.Itoa(i)+"]", t.base, deep-1)
+		}
+	}
+}
+
 // module is a source; what it exports is told by r's lists with its name ahead.
 func (r *random) module(name string, imports ...string) string {
 	r.b.Reset()
@@ -560,7 +613,13 @@ func (r *random) module(name string, imports ...string) string {
 		r.procedure(2)
 	}
 	r.put("BEGIN\n")
-	r.stmts(2 + r.n(8))
+	if r.n(5) > 0 {
+		r.begin()
+	}
+	r.stmts(2 + r.n(12))
+	if r.n(5) > 0 {
+		r.tell(name)
+	}
 	r.put("\nEND ", name, ".")
 	return r.b.String()
 }

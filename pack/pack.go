@@ -48,9 +48,12 @@ func (r *Reader) Int() int { return int(r.Word()) }
 // Name is a byte that tells how many, and so many bytes.
 func (r *Reader) Name() string { return string(r.Bytes(r.Byte())) }
 
-// Times reads how many, and then does as often what reads one; as long as there is something to read.
-func (r *Reader) Times(count func() int, one func()) {
+// Times reads how many (at most so many), and then does as often what reads one; as long as there is something to read.
+func (r *Reader) Times(count func() int, most int, one func()) {
 	n := count()
+	if n > most {
+		r.fault, r.rest = true, nil
+	}
 	for range n {
 		if r.fault {
 			return
@@ -129,6 +132,6 @@ func Imports(b []byte, l []api.Import) []byte {
 // Imports are names and keys, behind a byte that tells how many.
 func (r *Reader) Imports() []api.Import {
 	var l []api.Import
-	r.Times(r.Byte, func() { l = append(l, api.Import{Name: r.Name(), Key: r.Word()}) })
+	r.Times(r.Byte, api.MaxImports, func() { l = append(l, api.Import{Name: r.Name(), Key: r.Word()}) })
 	return l
 }
