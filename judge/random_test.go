@@ -624,24 +624,59 @@ func (r *random) module(name string, imports ...string) string {
 	return r.b.String()
 }
 
-// shown lets all names be those of another module.
-func (r *random) shown(name string, source string) {
+// shown lets all names be those of another module; what that one imported is not known any more, unless it is kept.
+func (r *random) shown(name, source string, keep bool) {
 	prefix := name + "."
+	told := func(s string) (string, bool) {
+		if strings.Contains(s, ".") {
+			return s, keep
+		}
+		return prefix + s, true
+	}
+	var types []*rtype
 	for _, t := range r.types {
-		t.name = prefix + t.name
-	}
-	for i := range r.vars {
-		r.vars[i].name = prefix + r.vars[i].name
-		r.vars[i].fixed = true
-	}
-	var l []rproc
-	for _, p := range r.procs {
-		if strings.Contains(source, "PROCEDURE "+p.name+"*") {
-			p.name = prefix + p.name
-			l = append(l, p)
+		n, ok := told(t.name)
+		if t.name = n; ok {
+			types = append(types, t)
 		}
 	}
-	r.procs = l
+	r.types = types
+	var vars []rvar
+	for _, v := range r.vars {
+		n, ok := told(v.name)
+		if v.name, v.fixed = n, true; ok {
+			vars = append(vars, v)
+		}
+	}
+	r.vars = vars
+	var procs []rproc
+	for _, p := range r.procs {
+		n, ok := told(p.name)
+		if ok && (n == p.name || strings.Contains(source, "PROCEDURE "+p.name+"*")) {
+			p.name = n
+			procs = append(procs, p)
+		}
+	}
+	r.procs = procs
+}
+
+// program is a few modules.
+func (r *random) program(i int) []string {
+	sources := []string{r.module("M1")}
+	if i%3 > 0 {
+		r.shown("M1", sources[0], true)
+		sources = append(sources, r.module("M2", "M1"))
+	}
+	if i%9 > 4 && i%3 > 0 {
+		keep := r.n(2) == 0
+		r.shown("M2", sources[1], keep)
+		if keep {
+			sources = append(sources, r.module("M3", "M2", "M1"))
+		} else {
+			sources = append(sources, r.module("M3", "M2"))
+		}
+	}
+	return sources
 }
 
 // count is how many sources are made; SELFSAME asks for more.
@@ -661,11 +696,7 @@ func TestRandom(t *testing.T) {
 	total := count(300)
 	for i := range total {
 		r := &random{seed: uint64(first + i)}
-		sources := []string{r.module("M1")}
-		if i%3 > 0 {
-			r.shown("M1", sources[0])
-			sources = append(sources, r.module("M2", "M1"))
-		}
+		sources := r.program(i)
 		s, _ := store.New(1 << 20)
 		var all [][]byte
 		right := true
