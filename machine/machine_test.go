@@ -56,6 +56,9 @@ func TestNew(t *testing.T) {
 	if m, e := New(64, make([]uint32, 17), s); m != nil || e != api.ErrMemory {
 		t.Error(m, e)
 	}
+	if m, e := New(64, make([]uint32, 16), s); e != api.OK || m.Heap() != 64 {
+		t.Error(e)
+	}
 	if m, e := New(api.MaxMemory, nil, s); m == nil || e != api.OK {
 		t.Error(e)
 	}
@@ -132,7 +135,7 @@ func TestHeap(t *testing.T) {
 	if w, _ := m.Word(16); w != 0 {
 		t.Error(w)
 	}
-	if m.Run(9); m.Stopped().Kind != api.StopHeap || m.Heap() != 24 {
+	if m.Run(9); m.Stopped() != (api.Stop{Kind: api.StopHeap}) || m.Heap() != 24 {
 		t.Error(m.Stopped())
 	}
 	for _, x := range []struct {
@@ -150,7 +153,7 @@ func TestHeap(t *testing.T) {
 }
 
 // do is what a call answers, and how the machine stands then.
-func do(m *Machine, n int, a, b uint32) (uint32, api.StopKind) {
+func do(m *Machine, n int, a, b uint32) (uint32, api.Stop) {
 	m = &Machine{cpu: m.cpu, mem: m.mem, heap: m.heap, store: m.store, calls: m.calls}
 	w, _ := isa.Word(sys(n))
 	m.SetWord(0, w)
@@ -158,7 +161,7 @@ func do(m *Machine, n int, a, b uint32) (uint32, api.StopKind) {
 	c.PC, c.R[0], c.R[1] = 0, a, b
 	m.SetCpu(c)
 	m.Step()
-	return m.Cpu().R[0], m.Stopped().Kind
+	return m.Cpu().R[0], m.Stopped()
 }
 
 // P5.2: the calls of files
@@ -183,7 +186,7 @@ func TestCalls(t *testing.T) {
 		{api.CallRegister, 3, 0, 3, 0}, {api.CallLength, 3, 0, 5, 0}, {api.CallWrite, 9, 0, 9, 0}, {api.CallRegister, 9, 0, 9, 0},
 		{api.CallDelete, 8, 3, 8, 0}, {api.CallDelete, 60, 5, 60, api.StopMemory}, {api.CallOld, 8, 2, 0, 0},
 	} {
-		if got, stop := do(m, x.call, x.a, x.b); got != x.want || stop != x.stop {
+		if got, stop := do(m, x.call, x.a, x.b); got != x.want || stop != (api.Stop{Kind: x.stop}) {
 			t.Error(n, x, got, stop)
 		}
 	}
@@ -194,7 +197,7 @@ func TestCalls(t *testing.T) {
 		m.store.Put("f"+string(rune('a'+i/26))+string(rune('a'+i%26)), nil)
 	}
 	f, _ := do(m, api.CallFresh, 8, 2)
-	if _, stop := do(m, api.CallRegister, f, 0); stop != api.StopStore {
+	if _, stop := do(m, api.CallRegister, f, 0); stop.Kind != api.StopStore {
 		t.Error(stop)
 	}
 }

@@ -8,7 +8,7 @@ import (
 )
 
 func sample() api.Object {
-	return api.Object{Name: "M1", Key: 0x01020304, Imports: []api.Import{{Name: "A", Key: 7}, {Name: "Bc", Key: 1 << 31}}, Vars: 8, Text: []byte("abcd"), Code: []uint32{1, 2, 3, 1 << 31}, Entries: []int{0, 3}, Fixups: []api.Fixup{{At: 0, Module: 0}, {At: 1, Module: 2, Entry: 200}, {At: 2, Module: 1}}}
+	return api.Object{Name: "M1", Key: 0x01020304, Imports: []api.Import{{Name: "A", Key: 7}, {Name: "Bc", Key: 1 << 31}}, Vars: 8, Text: []byte("abcd"), Code: []uint32{1, 2, 3, 1 << 31}, Entries: []int{0, 3}, Fixups: []api.Fixup{{At: 0, Module: 0}, {At: 1, Module: 2, Entry: 200}, {At: 2, Module: 1, Entry: 1}}}
 }
 
 // P7.1, P7.2
@@ -56,7 +56,7 @@ func TestMay(t *testing.T) {
 		func(o *api.Object) { o.Entries = make([]int, 202) },
 		func(o *api.Object) { o.Entries[1] = 4 },
 		func(o *api.Object) { o.Entries[0] = -1 },
-		func(o *api.Object) { o.Fixups[2].At = 3 },
+		func(o *api.Object) { o.Fixups[2].At, o.Fixups[2].Entry = 3, 0 },
 		func(o *api.Object) { o.Fixups[2].At = 1 },
 		func(o *api.Object) { o.Fixups[0].At = -1 },
 		func(o *api.Object) { o.Fixups[2].At = 4; o.Fixups[2].Entry = 1 },
@@ -93,7 +93,7 @@ func TestBytes(t *testing.T) {
 	for want, o := range map[string]api.Object{
 		"O1\x01M\x05\x00\x00\x00\x00\x00\x00\x00\x00\x00\x00\x00\x00\x01\x00\x00\x00\x00\x00\x00\x00\x01\x00\x00\x00\x00\x00\x00\x00\x00": {Name: "M", Key: 5, Code: []uint32{0}, Entries: []int{0}},
 		"O1\x02M1\x04\x03\x02\x01\x02\x01A\x07\x00\x00\x00\x02Bc\x00\x00\x00\x80\x08\x00\x00\x00\x04\x00\x00\x00abcd\x04\x00\x00\x00\x01\x00\x00\x00\x02\x00\x00\x00\x03\x00\x00\x00\x00\x00\x00\x80\x02\x00\x00\x00\x00\x03\x00\x00\x00" +
-			"\x03\x00\x00\x00\x00\x00\x00\x00\x00\x00\x01\x00\x00\x00\x02\xc8\x02\x00\x00\x00\x01\x00": sample(),
+			"\x03\x00\x00\x00\x00\x00\x00\x00\x00\x00\x01\x00\x00\x00\x02\xc8\x02\x00\x00\x00\x01\x01": sample(),
 	} {
 		b, e := Bytes(o)
 		if string(b) != want || e != api.OK {

@@ -110,7 +110,7 @@ func TestOn(t *testing.T) {
 		}
 	}
 	for _, m := range []*machine.Machine{nil, {}} {
-		if _, e := Peek(m, i, "R", -1); e != api.ErrNil {
+		if w, e := Peek(m, i, "R", -1); w != 0 || e != api.ErrNil {
 			t.Error(e)
 		}
 		if On(m, 5) != (api.End{}) {

@@ -34,7 +34,7 @@ func TestNew(t *testing.T) {
 		want(t, "Room", s.Room(), n)
 		want(t, "Riders", s.Riders(), 0)
 	}
-	for _, name := range []string{"a", "Z", "a.b", "a9.", strings.Repeat("x", 31)} {
+	for _, name := range []string{"a", "Z", "a.b", "a9.", "a0", strings.Repeat("x", 31)} {
 		want(t, name, MayName(name), true)
 	}
 	for _, name := range []string{"", "9", ".a", "a b", "a-b", "é", "aé", "a\x00", strings.Repeat("x", 32)} {
@@ -162,6 +162,13 @@ func TestHeld(t *testing.T) {
 	want(t, "Put over a held one", s.Put("a", []byte("1")), api.ErrFull)
 	b, _ = s.Get("a")
 	want(t, "refused: the same", string(b), "\x01")
+	s = fresh(t, 10)
+	s.Put("a", []byte("12345"))
+	g = s.Fresh("a")
+	s.WriteWord(g, 1)
+	want(t, "both", s.Room(), 1)
+	s.Register(g)
+	want(t, "what nobody holds goes", s.Room(), 6)
 }
 
 // P2.3
