@@ -112,6 +112,7 @@ func TestMeans(t *testing.T) {
 	one := api.Face{Name: "A", Types: []api.FaceType{pointer(own(1)), record(4, field("n", own(0)))}}
 	two := api.Face{Name: "B", Imports: []api.Import{{Name: "C", Key: 1}}, Types: []api.FaceType{pointer(own(1)), record(4, field("n", own(2))), pointer(own(3)), record(4, field("n", own(0)))}}
 	odd := api.Face{Name: "B", Types: []api.FaceType{pointer(own(1)), record(4, field("n", own(2))), pointer(own(3)), record(4, field("m", own(0)))}}
+	tail := api.Face{Name: "T", Types: []api.FaceType{pointer(own(1)), record(4, field("n", own(2))), pointer(own(3)), record(4, field("n", own(2)))}}
 	for n, x := range []struct {
 		a    api.Face
 		r    api.Ref
@@ -119,7 +120,7 @@ func TestMeans(t *testing.T) {
 		s    api.Ref
 		want bool
 	}{
-		{one, own(0), two, own(0), true}, {one, own(0), two, own(2), true}, {one, own(1), two, own(3), true}, {one, own(0), two, own(1), false}, {one, own(0), odd, own(0), false}, {two, own(0), two, own(2), true}, {odd, own(0), odd, own(2), false}, {odd, own(0), odd, own(0), true},
+		{one, own(0), two, own(0), true}, {one, own(0), two, own(2), true}, {one, own(0), tail, own(0), true}, {tail, own(0), tail, own(0), true}, {tail, own(0), tail, own(2), true}, {tail, own(1), tail, own(2), false}, {one, own(1), two, own(3), true}, {one, own(0), two, own(1), false}, {one, own(0), odd, own(0), false}, {two, own(0), two, own(2), true}, {odd, own(0), odd, own(2), false}, {odd, own(0), odd, own(0), true},
 		{one, basic(1), two, basic(1), true}, {one, basic(6), two, basic(6), true}, {one, basic(1), two, basic(4), false}, {one, basic(0), two, basic(0), false}, {one, basic(7), two, basic(7), false}, {one, own(2), two, own(2), false}, {two, own(4), two, own(4), false}, {one, basic(1), two, own(1), false},
 		{two, of(1, 0), two, of(1, 0), true}, {two, of(1, 0), two, of(1, 1), false}, {two, of(1, 0), two, own(0), false}, {two, of(2, 0), two, of(2, 0), false}, {two, api.Ref{Module: 1, Index: 5}, two, api.Ref{Module: 1, Index: 5}, false}, {two, of(-1, 0), two, of(-1, 0), false}, {api.Face{}, basic(1), api.Face{}, basic(1), false},
 	} {

@@ -63,7 +63,7 @@ func TestParts(t *testing.T) {
 		}
 	}
 	for source, want := range map[string]string{
-		"": "", ";a;;": "a", "a:=b;c(1);d()": "a := b ;\nc ( 1 ) ;\nd", "IF a THEN ELSIF b THEN c;d ELSE END": "IF a THEN ELSIF b THEN c ;\nd ELSE END", "WHILE a DO END;REPEAT b UNTIL c": "WHILE a DO END ;\nREPEAT b UNTIL c", "a.b:=f()": "a . b := f ( )", "IF a THEN IF b THEN END END": "IF a THEN IF b THEN END END",
+		"": "", ";a;;": "a", "a:=b;c(1);d()": "a := b ;\nc ( 1 ) ;\nd", "IF a THEN ELSIF b THEN c;d ELSE END": "IF a THEN ELSIF b THEN c ;\nd ELSE END", "IF a & f() THEN ELSIF f(g()) THEN END": "IF a & f ( ) THEN ELSIF f ( g ( ) ) THEN END", "WHILE a DO END;REPEAT b UNTIL c": "WHILE a DO END ;\nREPEAT b UNTIL c", "a.b:=f()": "a . b := f ( )", "IF a THEN IF b THEN END END": "IF a THEN IF b THEN END END",
 	} {
 		n, _, e := syntax.Stmts([]byte(source))
 		s, f := Stmts(n)

@@ -88,6 +88,7 @@ func TestSymbols(t *testing.T) {
 		"a\x7f":                                            "25@0:a error 1@1",
 		"_":                                                "error 1@0",
 		"'":                                                "error 1@0",
+		"INTEGER WHILE DELETE":                             "25@0:INTEGER 58@8 25@14:DELETE",
 		"a$":                                               "25@0:a error 1@1",
 		strings.Repeat("x", 14) + " y":                     "25@0:" + strings.Repeat("x", 14) + " 25@15:y",
 	} {

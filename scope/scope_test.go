@@ -96,6 +96,17 @@ func TestDeclare(t *testing.T) {
 	}
 	c.Set(99, api.Thing{})
 	c.Set(0, api.Thing{})
+	handed := []api.Param{{Type: 3}}
+	c.Set(a, api.Thing{Class: api.ClassProc, Value: -7, Params: handed})
+	handed[0].Type = 4
+	out, _ := c.Get(a)
+	if out.Params[0].Type != 3 {
+		t.Error("Set keeps")
+	}
+	out.Params[0].Type = 5
+	if out, _ = c.Get(a); out.Params[0].Type != 3 {
+		t.Error("Get hands out")
+	}
 	if _, ok := c.Find(y); ok {
 		t.Error("y")
 	}
@@ -242,10 +253,20 @@ func TestRefused(t *testing.T) {
 	if _, code := c.Import(s.Intern("A"), nil); code != 26 {
 		t.Error(code)
 	}
-	if _, code := c.Import(s.Intern("A"), func(string) ([]byte, bool) { panic("no") }); code != 26 {
+	if n, code := c.Import(s.Intern("A"), func(string) ([]byte, bool) { panic("no") }); n != 0 || code != 26 {
+		t.Error(n, code)
+	}
+	if n, code := c.Import(s.Intern("D"), files(other, l[2])); n != 0 || code != 26 {
+		t.Error(n, code)
+	}
+	if n, code := c.Import(s.Intern("B"), files(other)); n != 2 || code != 0 {
+		t.Error("of one that was refused for its key nothing is kept", n, code)
+	}
+	c, s, _ = fresh()
+	b, _, _ := symfile.Bytes(l[1])
+	if _, code := c.Import(s.Intern("B"), func(string) ([]byte, bool) { return b, false }); code != 26 {
 		t.Error(code)
 	}
-	b, _, _ := symfile.Bytes(l[1])
 	if _, code := c.Import(s.Intern("A"), func(string) ([]byte, bool) { return b, true }); code != 26 {
 		t.Error("another name", code)
 	}
@@ -285,8 +306,8 @@ func TestLimits(t *testing.T) {
 			t.Error(i, code)
 		}
 	}
-	if _, code := c.Import(s.Intern("X"), files()); code != 69 {
-		t.Error(code)
+	if n, code := c.Import(s.Intern("X"), files()); n != 0 || code != 69 {
+		t.Error(n, code)
 	}
 	big := api.Face{Name: "T"}
 	for range 190 {

@@ -136,6 +136,9 @@ func TestScripts(t *testing.T) {
 			t.Errorf("%q %d %v", text, line, e)
 		}
 	}
+	if _, line, e := Parse(strings.Repeat("x", api.MaxScript)); line != 0 || e != api.ErrBytes {
+		t.Error(line, e)
+	}
 	if _, line, e := Parse(strings.Repeat("x", api.MaxScript+1)); line != 0 || e != api.ErrLong {
 		t.Error(line, e)
 	}

@@ -55,6 +55,10 @@ func TestMake(t *testing.T) {
 	if got, _ := x.Get(14); !same(got, api.Type{Form: api.FormPointer, Base: 15, Size: 4}) {
 		t.Error(got)
 	}
+	x.SetBase(14, 0)
+	if got, _ := x.Get(14); got.Base != 0 {
+		t.Error(got)
+	}
 	for x.Len() < api.MaxTypes {
 		x.Pointer(0)
 	}
@@ -93,6 +97,11 @@ func TestRecord(t *testing.T) {
 	}
 	if x.Add(r, 5, 3) != 0 || x.Size(r) != 13 {
 		t.Error("behind End", x.Size(r))
+	}
+	two, _ := x.Import(api.Type{Size: 2})
+	odd, _ := x.Record()
+	if x.Add(odd, 1, 3) != 0 || x.Add(odd, 2, two) != 0 || x.Size(odd) != 6 || x.Add(odd, 3, two) != 0 || x.Size(odd) != 10 {
+		t.Error("a type of size 2", x.Size(odd))
 	}
 	e, _ := x.Record()
 	if x.Add(r, 6, e) != 0 || x.Size(r) != 13 {

@@ -43,7 +43,7 @@ func TestTypes(t *testing.T) {
 		base *Type
 		size int
 		e    api.Errno
-	}{{5, c, 8, 0}, {4, c, 4, 0}, {65535, i, 262140, 0}, {65535, c, 65536, 0}, {0, c, 0, api.ErrArg}, {-1, c, 0, api.ErrArg}, {65536, c, 0, api.ErrArg}, {0, nil, 0, api.ErrNil}, {1, &Type{}, 0, api.ErrNil}} {
+	}{{5, c, 8, 0}, {1, c, 4, 0}, {4, c, 4, 0}, {65535, i, 262140, 0}, {65535, c, 65536, 0}, {0, c, 0, api.ErrArg}, {-1, c, 0, api.ErrArg}, {65536, c, 0, api.ErrArg}, {0, nil, 0, api.ErrNil}, {1, &Type{}, 0, api.ErrNil}} {
 		a, e := Array(x.n, x.base)
 		if e != x.e || (a == nil) != (e != api.OK) || a.Size() != x.size || e == api.OK && (a.Len() != x.n || a.Base() != x.base || a.Kind() != api.KindArray || a.Scalar()) {
 			t.Error(x, e)
@@ -85,6 +85,14 @@ func TestTypes(t *testing.T) {
 	}
 	if at, e := r.Offset("d"); at != 0 || e != api.ErrNone {
 		t.Error(e)
+	}
+	v, _ := New(record(t, "a b c d", c, c, i, c))
+	for _, name := range []string{"a", "b", "c", "d"} {
+		f, _ := v.Field(name)
+		f.Set(Value{Word: uint32(name[0])})
+	}
+	if string(v.Bytes()) != "ab\x00\x00c\x00\x00\x00d\x00\x00\x00" {
+		t.Errorf("%q", v.Bytes())
 	}
 	if _, e := i.Offset("a"); e != api.ErrState {
 		t.Error(e)
@@ -179,8 +187,8 @@ func TestVars(t *testing.T) {
 	}
 	for _, x := range []*Type{nil, {}} {
 		_, e := New(x)
-		_, o := x.Offset("a")
-		if e != api.ErrNil || o != api.ErrNil || x.Kind() != 0 || x.Len() != 0 || x.Base() != nil || x.Size() != 0 || x.Scalar() {
+		at, o := x.Offset("a")
+		if e != api.ErrNil || at != 0 || o != api.ErrNil || x.Kind() != 0 || x.Len() != 0 || x.Base() != nil || x.Size() != 0 || x.Scalar() {
 			t.Error(e, o)
 		}
 		for range x.Fields() {
