@@ -153,6 +153,55 @@ func TestProcedures(t *testing.T) {
 	}
 }
 
+// P14.1, P0.2: flags of what was reckoned ahead, and registers that are held, change nothing
+func TestHeld(t *testing.T) {
+	decls := "VAR i, j, k: INTEGER; b: BOOLEAN; a: ARRAY 3 OF INTEGER; PROCEDURE F(x: INTEGER): INTEGER; RETURN x + 1 END F; " +
+		"PROCEDURE P(x: INTEGER): INTEGER; VAR l, m: INTEGER; BEGIN l := 3; m := 5 RETURN x * 1000 + F(l) * 100 + F(m) * F(x) END P; " +
+		"PROCEDURE Q(x: ARRAY OF INTEGER; n: INTEGER): INTEGER; RETURN x[n - 1] END Q; PROCEDURE R(x: ARRAY OF INTEGER): INTEGER; RETURN x[0] * 10 + x[2] END R; PROCEDURE B(x: INTEGER; y, z: ARRAY OF INTEGER; w: BOOLEAN): INTEGER; RETURN x + y[1] + LEN(z) + ORD(w) END B; "
+	for stmts, want := range map[string]string{
+		"i := 2147483647; j := -5; k := i + 1; HALT(ABS(j))":  "halt 5",
+		"i := 2147483647; j := 5; k := i + 1; HALT(ABS(j))":   "halt 5",
+		"i := 2147483647; j := 5; k := i + 1; HALT(17 DIV j)": "halt 3",
+		"i := 2147483647; j := 5; k := i + 1; HALT(i MOD j)":  "halt 2",
+		"i := 2147483647; k := i + 1; HALT(17 DIV k)":         "trap 6",
+		"HALT(P(2))":                       "halt 2418",
+		"a[2] := 7; HALT(Q(a, 3))":         "halt 7",
+		"HALT(Q(a, 0))":                    "trap 1",
+		"HALT(Q(a, 4))":                    "trap 1",
+		"a[0] := 4; a[2] := 9; HALT(R(a))": "halt 49",
+		"i := 1; j := 2; k := 3; HALT(i - (j - (k - (i - (j - F(k) * F(F(j)))))))":           "halt -13",
+		"i := 5; a[1] := 6; b := i = 5; HALT(i + i * B(i, a, a, i = i + i * (F(i) - F(i))))": "halt 80",
+		"i := 5; a[1] := 6; HALT(i + i * B(i, a, a, i = i + i * F(i) * F(i)) - F(i + F(i)))": "halt 63",
+	} {
+		if got := told(t, decls, stmts); got != want {
+			t.Errorf("%s: %s, not %s", stmts, got, want)
+		}
+	}
+}
+
+// P14.3: a face that only others import names a type that there is not
+func TestWhole(t *testing.T) {
+	a := api.Face{Name: "A"}
+	_, key, _ := symfile.Bytes(a)
+	b := api.Face{Name: "B", Imports: []api.Import{{Name: "A", Key: key}}, Objects: []api.FaceObject{{Class: api.ClassProc, Name: "P", Value: 1, Params: []api.FaceParam{{Base: api.Ref{Module: 1, Index: 16}}}}}}
+	_, key, _ = symfile.Bytes(b)
+	c := api.Face{Name: "C", Imports: []api.Import{{Name: "B", Key: key}}}
+	files := func(name string) ([]byte, bool) {
+		for _, f := range []api.Face{a, b, c} {
+			if symfile.File(f.Name) == name {
+				bytes, _, _ := symfile.Bytes(f)
+				return bytes, true
+			}
+		}
+		return nil, false
+	}
+	for _, name := range []string{"B", "C"} {
+		if m := Source([]byte("MODULE M; IMPORT "+name+"; END M."), files); m.Err != 26 || m.Pos != 17 {
+			t.Error(name, m.Err, m.Pos)
+		}
+	}
+}
+
 // P14.1: files
 func TestFiles(t *testing.T) {
 	s := built(t, "MODULE M; VAR f, g, w: INTEGER; c: CHAR; b: BYTE; n: ARRAY 9 OF CHAR; BEGIN f := FRESH(\"a.b\"); WRITE(f, \"x\"); WRITE(f, 300); WRITEW(f, 01020304H); REGISTER(f); "+

@@ -59,15 +59,16 @@ func TestStatements(t *testing.T) {
 		"NEW(p); p.n := p; p.n.v := 5; HALT(p^.n^.n.v)":                         "halt 5 4",
 		"NEW(p); q := p; IF (p = q) & (p.n = NIL) & (NIL # p) THEN HALT(1) END": "halt 1 4",
 		"i := 3; HALT(i + F(3) * 2)":                                            "halt 15 11",
-		"HALT(Y(300) + Y(-1))":                                                  "halt 299 3",
-		"y := 300; HALT(y); ":                                                   "halt 44 2",
-		"i := 5; V(i, i); HALT(i)":                                              "halt 20 6",
-		"HALT(L(\"ab\"))":                                                       "halt 3097 4",
-		"Z(a, 3); HALT(a[3])":                                                   "halt 3 3",
-		"Z(a, 4)":                                                               "trap 1 2",
-		"NEW(p); m[1][2].v := 6; q := G(m[1][2], p); HALT(q.v)":                 "halt 7 6",
-		"IF d & T() OR T() THEN HALT(j) END":                                    "halt 1 4",
-		"b := T() OR T(); HALT(j)":                                              "halt 1 4",
+		"HALT(Y(300))":                                                          "halt 44 2", "HALT(Y(-1) * 2)": "halt 510 2",
+		"HALT(Y(300) + Y(-1))":     "halt 299 3",
+		"y := 300; HALT(y); ":      "halt 44 2",
+		"i := 5; V(i, i); HALT(i)": "halt 20 6",
+		"HALT(L(\"ab\"))":          "halt 3097 4",
+		"Z(a, 3); HALT(a[3])":      "halt 3 3",
+		"Z(a, 4)":                  "trap 1 2",
+		"NEW(p); m[1][2].v := 6; q := G(m[1][2], p); HALT(q.v)":                                 "halt 7 6",
+		"IF d & T() OR T() THEN HALT(j) END":                                                    "halt 1 4",
+		"b := T() OR T(); HALT(j)":                                                              "halt 1 4",
 		"s := {1, 33, -1} + {2}; IF (63 IN s) & ~(3 IN s) THEN HALT(ORD(s * {0, 1, 2, 3})) END": "halt 6 4",
 		"WHILE i < 3 DO INC(i) END; HALT(i)":                                                    "halt 3 9",
 		"REPEAT INC(i, 2) UNTIL i > 3; HALT(i)":                                                 "halt 4 6",
@@ -103,6 +104,21 @@ func TestStatements(t *testing.T) {
 		}
 		if other.Stop != end.Stop || !s.Same(machine) {
 			t.Errorf("%s: the machine %v", stmts, other)
+		}
+	}
+}
+
+// P19.2: names of procedures, types of parts
+func TestNames(t *testing.T) {
+	for source, want := range map[string]string{
+		"MODULE M; PROCEDURE P(a, b: INTEGER): INTEGER; VAR c, d: INTEGER; BEGIN c := a; d := b; INC(c); INC(d, c) RETURN a * 1000 + b * 100 + c * 10 + d END P; BEGIN HALT(P(1, 2)) END M.":                                                                                                                    "halt 1224 6",
+		"MODULE M; TYPE R = RECORD s: SET; b: BYTE END; VAR p: POINTER TO R; a: ARRAY 2 OF R; q: ARRAY 2 OF SET; PROCEDURE P(x: ARRAY OF SET): SET; RETURN x[0] + {1} END P; BEGIN NEW(p); p^.s := {2}; a[1].s := {3}; q[0] := {0}; HALT(ORD(p^.s + {1}) + ORD(a[1].s + {3}) * 100 + ORD(P(q)) * 10000) END M.": "halt 30806 9",
+		"MODULE M; TYPE P = POINTER TO R; R = RECORD n: P; v: INTEGER END; PROCEDURE Q; TYPE S = POINTER TO R; T = POINTER TO Z; Z = RECORD s: S; c: CHAR END; VAR t: T; BEGIN NEW(t); NEW(t.s); NEW(t.s.n); t.s.n.v := 8; HALT(t.s.n.v + ORD(t.c)) END Q; BEGIN Q END M.":                                      "halt 8 7",
+		"MODULE M; VAR x: INTEGER; PROCEDURE P; PROCEDURE ABS(n: INTEGER): INTEGER; RETURN n * 2 END ABS; BEGIN x := ABS(-3) END P; PROCEDURE Q; BEGIN x := x + ABS(-3) END Q; BEGIN P; Q; HALT(x) END M.":                                                                                                      "halt -3 7",
+	} {
+		end, e := Run(fresh(), "M", 999, parsed(t, source)...)
+		if got := told(end); got != want || e != api.OK {
+			t.Errorf("%s: %s %v, not %s", source, got, e, want)
 		}
 	}
 }
