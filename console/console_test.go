@@ -54,6 +54,12 @@ func TestLines(t *testing.T) {
 		"plain m", "| MODULE M ;; | TYPE R * = RECORD a : CHAR END ;; | VAR x * : INTEGER ;; | BEGIN x := 2 ;; | HALT ( x ) END M .", "plain b", "error 4", "plain n", "error 6",
 		"run M 4096 99", "halt 2 11", "run M 4096 3", "fuel 3", "run M 4097 3", "error 2", "run N 4096 3", "error 6", "run M 64 3", "error 10", "run M", "error 4", "mean M 99 m", "halt 2 2", "mean M 1 m", "fuel 1", "mean M 9 n m", "error 6", "mean M 9 b n", "error 6", "mean M 9 m b", "error 4", "mean N 9 m", "error 6", "mean M 9 m m", "error 2", "mean M 9", "error 4",
 		"word 00000000", "MOV R0 R0", "word 000c0000", "error 4", "word C700000F", "error 4", "word 0", "error 4", "own", "error 5", "own ", "error 4", "nothing", "error 4", "", "error 4", "get\nb", "error 4", "end\n", "error 4", " files", "error 4", strings.Repeat("x", api.MaxScript+1), "error 3")
+	said(t, c, strings.Repeat("x", api.MaxScript), "error 4")
+	zero := New()
+	said(t, zero, "capacity 0", "ok", "put a -", "ok", "put a 00", "error 5")
+	if got, e := zero.Run(strings.Repeat("x", api.MaxScript)); got != "error 4\n" || e != api.OK {
+		t.Error(got, e)
+	}
 	s := c.Store()
 	s.Put("zz", nil)
 	said(t, c, "get zz", "error 6", "put M.s 00", "ok", "face M", "error 4", "end", "ok", "get b", "error 7", "own", "error 7", "word 00000000", "error 7", "capacity 5", "ok", "files", "")

@@ -30,24 +30,25 @@ func same(t *testing.T, source string, got api.Node, at int, e api.Errno, want a
 func TestExpr(t *testing.T) {
 	i := func(a, x api.Node) api.Node { return of(api.NodeIndex, a, x) }
 	for source, want := range map[string]api.Node{
-		"1 + 2 * a[3]":        op("+", num(1), op("*", num(2), i(id("a"), num(3)))),
-		"1-2-3":               op("-", op("-", num(1), num(2)), num(3)),
-		"a DIV b MOD c & d/e": op("/", op("&", op("MOD", op("DIV", id("a"), id("b")), id("c")), id("d")), id("e")),
-		"- a * b + c OR d":    op("OR", op("+", named(api.NodeSign, "-", op("*", id("a"), id("b"))), id("c")), id("d")),
-		"+1 <= -2":            op("<=", named(api.NodeSign, "+", num(1)), named(api.NodeSign, "-", num(2))),
-		"a IN {1, b + 1, {}}": op("IN", id("a"), of(api.NodeSet, num(1), op("+", id("b"), num(1)), of(api.NodeSet))),
-		" ~ ~(a # NIL)(**) ":  of(api.NodeNot, of(api.NodeNot, of(api.NodeParen, op("#", id("a"), of(api.NodeNil))))),
-		"M.x.y[1]^.z(a, 2)":   of(api.NodeCall, field(of(api.NodeDeref, i(field(field(id("M"), "x"), "y"), num(1))), "z"), id("a"), num(2)),
-		"f()":                 of(api.NodeCall, id("f")),
-		"TRUE = FALSE":        op("=", of(api.NodeTrue), of(api.NodeFalse)),
-		"\"\"":                named(api.NodeString, ""),
-		"\"a\" > \"(* \"":     op(">", named(api.NodeString, "a"), named(api.NodeString, "(* ")),
-		"0FFX":                {Kind: api.NodeChar, Value: 255},
-		"0FFFFFFFFH":          num(1<<32 - 1),
-		"2147483647":          num(1<<31 - 1),
-		"00000000000000009":   num(9),
-		"000":                 num(0),
-		"5MOD 3":              op("MOD", num(5), num(3)),
+		"1 + 2 * a[3]":                        op("+", num(1), op("*", num(2), i(id("a"), num(3)))),
+		"1-2-3":                               op("-", op("-", num(1), num(2)), num(3)),
+		"a DIV b MOD c & d/e":                 op("/", op("&", op("MOD", op("DIV", id("a"), id("b")), id("c")), id("d")), id("e")),
+		"- a * b + c OR d":                    op("OR", op("+", named(api.NodeSign, "-", op("*", id("a"), id("b"))), id("c")), id("d")),
+		"+1 <= -2":                            op("<=", named(api.NodeSign, "+", num(1)), named(api.NodeSign, "-", num(2))),
+		"a IN {1, b + 1, {}}":                 op("IN", id("a"), of(api.NodeSet, num(1), op("+", id("b"), num(1)), of(api.NodeSet))),
+		" ~ ~(a # NIL)(**) ":                  of(api.NodeNot, of(api.NodeNot, of(api.NodeParen, op("#", id("a"), of(api.NodeNil))))),
+		"M.x.y[1]^.z(a, 2)":                   of(api.NodeCall, field(of(api.NodeDeref, i(field(field(id("M"), "x"), "y"), num(1))), "z"), id("a"), num(2)),
+		"f()":                                 of(api.NodeCall, id("f")),
+		"TRUE = FALSE":                        op("=", of(api.NodeTrue), of(api.NodeFalse)),
+		"\"\"":                                named(api.NodeString, ""),
+		"\"a\" > \"(* \"":                     op(">", named(api.NodeString, "a"), named(api.NodeString, "(* ")),
+		"\"" + strings.Repeat("x", 63) + "\"": named(api.NodeString, strings.Repeat("x", 63)),
+		"0FFX":                                {Kind: api.NodeChar, Value: 255},
+		"0FFFFFFFFH":                          num(1<<32 - 1),
+		"2147483647":                          num(1<<31 - 1),
+		"00000000000000009":                   num(9),
+		"000":                                 num(0),
+		"5MOD 3":                              op("MOD", num(5), num(3)),
 	} {
 		n, at, e := Expr([]byte(source))
 		same(t, source, n, at, e, want)
@@ -55,7 +56,7 @@ func TestExpr(t *testing.T) {
 			t.Error(source, "may not be")
 		}
 	}
-	for source, at := range map[string]int{"": 0, "  ": 2, "1 2": 2, "1 +": 3, "a.5": 2, "a[1": 3, "a[]": 2, "(1": 2, "{1,}": 3, "f(,)": 2, "f(1,)": 4, "1 = 2 = 3": 6, "- -1": 2, "1 + -1": 4, "10DIV": 0, "a + 0FF": 4, "a + \"x": 4, "a (* b": 2, "a ! ": 2, "f() . x": 4, "1.x": 1, "a := 1": 2, "abcdefghijklmnop": 0, "IF": 0, "NIL.x": 3, "(1))": 3, "2147483648": 0, "999999999999999999999999999": 0, "1 IN IN": 5, "100X": 0, "100000000H": 0} {
+	for source, at := range map[string]int{"\"" + strings.Repeat("x", 64) + "\"": 0, "": 0, "  ": 2, "1 2": 2, "1 +": 3, "a.5": 2, "a[1": 3, "a[]": 2, "(1": 2, "{1,}": 3, "f(,)": 2, "f(1,)": 4, "1 = 2 = 3": 6, "- -1": 2, "1 + -1": 4, "10DIV": 0, "a + 0FF": 4, "a + \"x": 4, "a (* b": 2, "a ! ": 2, "f() . x": 4, "1.x": 1, "a := 1": 2, "abcdefghijklmnop": 0, "IF": 0, "NIL.x": 3, "(1))": 3, "2147483648": 0, "999999999999999999999999999": 0, "1 IN IN": 5, "100X": 0, "100000000H": 0} {
 		if n, got, e := Expr([]byte(source)); got != at || e != api.ErrBytes || n.Kind != 0 {
 			t.Error(source, got, e)
 		}
