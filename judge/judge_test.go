@@ -106,6 +106,86 @@ func TestParts(t *testing.T) {
 	}
 }
 
+// P24.1: what does not go together
+func TestTogether(t *testing.T) {
+	one := api.Made{Face: api.Face{Name: "A"}}
+	for i, x := range []struct {
+		made   api.Made
+		face   api.Face
+		e      api.Errno
+		modest bool
+		want   bool
+	}{
+		{one, one.Face, api.OK, true, true}, {one, api.Face{Name: "B"}, api.OK, true, false}, {one, one.Face, api.ErrState, true, false}, {one, api.Face{}, api.OK, true, false}, {api.Made{}, api.Face{}, api.OK, true, false},
+		{api.Made{Err: 1}, api.Face{}, api.ErrBytes, true, true}, {api.Made{Err: 59}, api.Face{}, api.ErrState, true, true}, {api.Made{Err: 59}, api.Face{}, api.ErrNone, true, true}, {api.Made{Err: 59}, one.Face, api.OK, true, false}, {api.Made{Err: 60}, one.Face, api.OK, true, true}, {api.Made{Err: 60}, api.Face{}, api.ErrState, true, true},
+		{api.Made{Err: 65}, one.Face, api.OK, true, false}, {api.Made{Err: 66}, one.Face, api.OK, true, false}, {api.Made{Err: 71}, one.Face, api.OK, true, false}, {api.Made{Err: 65}, one.Face, api.OK, false, true}, {api.Made{Err: 66}, one.Face, api.OK, false, true}, {api.Made{Err: 71}, one.Face, api.OK, false, true}, {api.Made{Err: 64}, one.Face, api.OK, true, true}, {api.Made{Err: 67}, one.Face, api.OK, true, true}, {api.Made{Err: 72}, one.Face, api.OK, true, true},
+	} {
+		if together(x.made, x.face, x.e, x.modest) != x.want {
+			t.Error(i)
+		}
+	}
+}
+
+// P24.2: ends, and files, that are unlike
+func TestEnds(t *testing.T) {
+	a, b := files(t), files(t)
+	b.Put("x", nil)
+	halt := func(n uint32) api.End { return api.End{Stop: api.Stop{Kind: api.StopHalt, Code: n}, Steps: int(n)} }
+	trap := api.End{Stop: api.Stop{Kind: api.StopTrap, Code: 3}}
+	for i, x := range []struct {
+		end, meant api.End
+		s, o       *store.Store
+		want, boot bool
+	}{
+		{halt(0), halt(0), a, a.Copy(), true, true}, {halt(3), halt(3), a, a.Copy(), true, false}, {halt(3), halt(4), a, a, false, false}, {halt(3), trap, a, a, false, false}, {halt(0), halt(0), a, b, false, false}, {api.End{Fuel: true}, halt(3), a, b, true, false}, {halt(0), api.End{Fuel: true}, a, b, true, false},
+		{api.End{Stop: api.Stop{Kind: api.StopStack}}, halt(0), a, b, true, true}, {api.End{Stop: api.Stop{Kind: api.StopHeap}}, halt(0), a, b, true, true}, {api.End{Stop: api.Stop{Kind: api.StopStore}}, halt(0), a, b, true, true}, {api.End{Stop: api.Stop{Kind: api.StopMemory}}, halt(0), a, a, false, false}, {trap, trap, a, a, true, false},
+	} {
+		if endAlike(x.end, x.meant, x.s, x.o) != x.want || booted(x.end, api.OK, x.s, x.o) != x.boot {
+			t.Error(i)
+		}
+	}
+	if booted(halt(0), api.ErrFull, a, a) {
+		t.Error("what had no room was made")
+	}
+}
+
+// P24.2: what is run, and booted
+func TestReady(t *testing.T) {
+	l, ok := parsed([][]byte{[]byte(moduleA), []byte(moduleB)})
+	if !ok || len(l) != 2 || l[1].Name != "B" {
+		t.Error(l, ok)
+	}
+	for i, l := range [][][]byte{nil, {[]byte("x")}, {[]byte(moduleA), []byte(moduleA)}} {
+		if _, ok := parsed(l); ok {
+			t.Error(i)
+		}
+	}
+	s, ok := built([][]byte{[]byte(moduleA), []byte(moduleB)})
+	names := ""
+	for name := range s.Files() {
+		names += name + " "
+	}
+	if !ok || names != "A.o A.s B.o B.s " {
+		t.Error(names, ok)
+	}
+	if _, ok := built([][]byte{[]byte(moduleB)}); ok {
+		t.Error("B without A")
+	}
+	s = files(t, moduleA)
+	s.Old("A.s")
+	f, ok := fresh([]byte("x"), s)
+	if b, _ := f.Get("source"); !ok || string(b) != "x" || f.Riders() != 0 || f.Room() != s.Room()-1 {
+		t.Error(ok, f.Room(), s.Room())
+	}
+	f.Drop("source")
+	if !f.Same(s) {
+		t.Error("other files")
+	}
+	if _, ok := fresh(make([]byte, 1<<20), s); ok {
+		t.Error("no room")
+	}
+}
+
 // P24.2, P24.3
 func TestBoot(t *testing.T) {
 	s := files(t, moduleA, moduleB)
