@@ -7,10 +7,7 @@ import (
 	"selfsame/symfile"
 )
 
-const (
-	maxGroup = 100 // names in one list of fields
-	textMost = api.MaxText
-)
+const maxGroup = 100 // names in one list of fields
 
 func roundUp(n int) int { return (n + 3) / 4 * 4 }
 
@@ -228,7 +225,7 @@ func (c *compiler) allot(p *procedure, t int) int {
 	return linkBytes + wordBytes*p.words + p.bytes - size
 }
 
-// made tells a type's number, or stops for the error.
+// madeType tells a type's number, or stops for the error.
 func (c *compiler) madeType(n, code int) int {
 	c.ask(code == 0, code)
 	return n

@@ -153,7 +153,7 @@ func (c *compiler) array(base int, isVar bool, x *item) {
 	if c.is(api.SymString) && base == api.TypeChar && !isVar {
 		n := len(c.sym.Text) + 1
 		*x = item{mode: modeGlobal, a: c.vars + len(c.text)}
-		c.ask(len(c.text)+n <= textMost, errText)
+		c.ask(len(c.text)+n <= api.MaxText, errText)
 		c.text = append(append(c.text, c.sym.Text...), 0)
 		c.get()
 		c.address(x)

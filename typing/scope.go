@@ -275,7 +275,6 @@ func (c *checker) procedure(n api.Node) {
 	if n.Kids[1].Kind != api.NodeNone {
 		t := c.qualname(n.Kids[1])
 		c.ask(t.scalar())
-		// Within the heading the name stands for no function as yet, nor is it asked for one.
 		p.typ = t
 	}
 	c.decls(n.Kids[2])
