@@ -70,6 +70,19 @@ func TestSamples(t *testing.T) {
 	}
 }
 
+// P22.3, P0.3: at limits, and beyond
+func TestLimits(t *testing.T) {
+	files := stage(t, 1)
+	for _, x := range samples.Limits() {
+		if len(x.Source) > api.MaxSource {
+			continue
+		}
+		s, _ := store.New(1 << 20)
+		s.Put("source", []byte(x.Source))
+		both(t, files, s)
+	}
+}
+
 // P22.1
 func TestFuel(t *testing.T) {
 	for _, x := range [][3]int{{10, 0, 20600000}, {0, 0, 20000000}, {0, 10, 20030000}, {-5, -7, 20000000}, {1 << 30, 1 << 30, 20000000 + 63000<<30}, {1 << 40, 1<<62 + 5, 20000000 + 63000<<30}} {

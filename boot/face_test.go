@@ -200,3 +200,75 @@ func TestFaceBytes(t *testing.T) {
 		}
 	}
 }
+
+// P22.3, P0.3: great symbol files, and many
+func TestGreatFaces(t *testing.T) {
+	files := stage(t, 1)
+	integer := api.Ref{Index: 1}
+	consts := func(n int, name string) api.Face {
+		f := api.Face{Name: name}
+		for i := range n {
+			f.Objects = append(f.Objects, api.FaceObject{Class: api.ClassConst, Name: fmt.Sprint("c", i), Base: integer})
+		}
+		return f
+	}
+	types := func(n, fields int) api.Face {
+		f := api.Face{Name: "A"}
+		for range n {
+			x := api.FaceType{Form: api.FormRecord, Size: 4}
+			for i := range fields {
+				x.Fields = append(x.Fields, api.FaceField{Name: fmt.Sprint("f", i), Base: integer})
+			}
+			f.Types = append(f.Types, x)
+		}
+		return f
+	}
+	procs := api.Face{Name: "A"}
+	for i := range 200 {
+		o := api.FaceObject{Class: api.ClassProc, Name: fmt.Sprint("p", i), Value: uint32(i + 1)}
+		for range 12 {
+			o.Params = append(o.Params, api.FaceParam{Base: integer})
+		}
+		procs.Objects = append(procs.Objects, o)
+	}
+	chain := func(n int) []api.Face {
+		var l []api.Face
+		for i := range n {
+			f := api.Face{Name: fmt.Sprint("A", i)}
+			if i == n-1 {
+				f.Name = "A"
+			}
+			if i > 0 {
+				_, k, _ := symfile.Bytes(l[i-1])
+				f.Imports = []api.Import{{Name: l[i-1].Name, Key: k}}
+			}
+			l = append(l, f)
+		}
+		return l
+	}
+	for n, x := range []struct {
+		faces []api.Face
+		code  int
+	}{
+		{[]api.Face{consts(600, "A"), consts(299, "B")}, 63}, {[]api.Face{consts(600, "A"), consts(298, "B")}, 0}, {[]api.Face{consts(600, "A"), consts(301, "B")}, 63}, {[]api.Face{consts(640, "A")}, 0}, {[]api.Face{consts(641, "A")}, 0}, {[]api.Face{consts(642, "A")}, 62}, {[]api.Face{consts(900, "A")}, 62},
+		{[]api.Face{types(194, 0)}, 0}, {[]api.Face{types(195, 0)}, 64}, {[]api.Face{types(20, 100)}, 0}, {[]api.Face{types(21, 100)}, 73}, {[]api.Face{types(40, 100)}, 73}, {[]api.Face{types(80, 100)}, 26}, {[]api.Face{procs}, 0}, {chain(12), 0}, {chain(13), 69}, {chain(14), 69},
+	} {
+		s, _ := store.New(1 << 22)
+		for _, f := range x.faces {
+			b, _, e := symfile.Bytes(f)
+			if e != api.OK {
+				t.Fatal(n, e)
+			}
+			s.Put(symfile.File(f.Name), b)
+		}
+		source := "MODULE M; IMPORT A; END M."
+		if x.faces[len(x.faces)-1].Name == "B" {
+			source = "MODULE M; IMPORT A, B; END M."
+		}
+		s.Put("source", []byte(source))
+		if m := compile.Source([]byte(source), compile.Files(s)); m.Err != x.code {
+			t.Error(n, m.Err)
+		}
+		both(t, files, s)
+	}
+}
