@@ -177,7 +177,7 @@ BEGIN
   move(x.typ, 80000000H, r, b, off)
 END Fetch;
 
-PROCEDURE fixLinkTo(l, to: INTEGER);
+PROCEDURE FixLinkTo*(l, to: INTEGER);
   VAR next: INTEGER;
 BEGIN
   WHILE l # 0 DO
@@ -185,16 +185,11 @@ BEGIN
     code[l] := code[l] - next + (to - l - 1) MOD jumps;
     l := next
   END
-END fixLinkTo;
-
-PROCEDURE FixLinkTo*(l, to: INTEGER);
-BEGIN
-  fixLinkTo(l, to)
 END FixLinkTo;
 
 PROCEDURE FixLink*(l: INTEGER);
 BEGIN
-  fixLinkTo(l, pc)
+  FixLinkTo(l, pc)
 END FixLink;
 
 (* FixJump lets one jump go to the next word. *)

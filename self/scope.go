@@ -378,17 +378,12 @@ BEGIN
   modules[m].ntypes := ntypes
 END check;
 
-PROCEDURE fileName(name: INTEGER; ending: CHAR; VAR s: ARRAY OF CHAR);
+(* Name is that of a module's file; it ends with s, or o. *)
+PROCEDURE Name*(name: INTEGER; ending: CHAR; VAR s: ARRAY OF CHAR);
   VAR i: INTEGER;
 BEGIN
   WHILE Scan.spell[name][i] # 0X DO s[i] := Scan.spell[name][i]; INC(i) END;
   s[i] := "."; s[i + 1] := ending; s[i + 2] := 0X
-END fileName;
-
-(* Name is that of a module's file; it ends with s, or o. *)
-PROCEDURE Name*(name: INTEGER; ending: CHAR; VAR s: ARRAY OF CHAR);
-BEGIN
-  fileName(name, ending, s)
 END Name;
 
 (* read reads the face of a module that was not read as yet: its number. *)
@@ -396,7 +391,7 @@ PROCEDURE read(name: INTEGER): INTEGER;
   VAR s: ARRAY 20 OF CHAR;
 BEGIN
   IF nm >= maxModules THEN Scan.Mark(69) END;
-  fileName(name, "s", s);
+  Name(name, "s", s);
   file := OLD(s);
   want(file # 0);
   left := LENGTH(file);
