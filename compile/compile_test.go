@@ -87,6 +87,8 @@ func TestValues(t *testing.T) {
 		"NEW(p); IF p # NIL THEN HALT(1) END":                                                                   "halt 1",
 		"IF NIL = p THEN HALT(1) END":                                                                           "halt 1",
 		"IF p = q THEN HALT(1) END":                                                                             "halt 1",
+		"IF (NIL = NIL) & ~(NIL # NIL) & ((p = NIL) = (NIL = NIL)) THEN HALT(1) END":                            "halt 1",
+		"b := NIL # NIL; d := NIL = NIL; HALT(ORD(b) * 10 + ORD(d))":                                            "halt 1",
 		"b := i = j; IF b THEN HALT(1) END":                                                                     "halt 1",
 		"b := (i = j) = (c = 0X); IF b & ~d THEN HALT(1) END":                                                   "halt 1",
 		"IF d & T() THEN HALT(9) END; HALT(j)":                                                                  "halt 0",

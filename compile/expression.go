@@ -7,8 +7,8 @@ func (c *compiler) fits(to int, x *item) bool {
 	return to != api.TypeNil && c.table.Scalar(to) && c.table.Fits(to, x.typ)
 }
 
-// fitEach: may two values be held against each other?
-func (c *compiler) fitEach(x, y *item) bool { return c.fits(x.typ, y) || c.fits(y.typ, x) }
+// fitEach: may two values be held against each other? x is a scalar; NIL is put into nothing of its own type, but is like itself.
+func (c *compiler) fitEach(x, y *item) bool { return x.typ == y.typ || c.fits(x.typ, y) || c.fits(y.typ, x) }
 
 // hold keeps a value as it is now, while others are reckoned.
 func (c *compiler) hold(x *item) {

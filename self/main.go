@@ -143,7 +143,7 @@ BEGIN
 END copy;
 
 PROCEDURE fitEach(x, y: Gen.Item): BOOLEAN;
-RETURN Types.Fits(x.typ, y.typ) OR Types.Fits(y.typ, x.typ)
+RETURN (x.typ = y.typ) OR Types.Fits(x.typ, y.typ) OR Types.Fits(y.typ, x.typ)
 END fitEach;
 
 PROCEDURE condOf(op: INTEGER): INTEGER;

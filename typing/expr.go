@@ -82,7 +82,7 @@ func (c *checker) operation(n api.Node) value {
 	both := func(typ int) bool { return a.basic == typ && b.basic == typ }
 	switch n.Name {
 	case "=", "#":
-		c.ask(fits(a, b) || fits(b, a))
+		c.ask(equals(a, b))
 		return c.of(api.TypeBoolean)
 	case "<", "<=", ">", ">=":
 		c.ask(a.integer() && b.integer() || both(api.TypeChar))

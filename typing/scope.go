@@ -84,6 +84,9 @@ func fits(to, from *typ) bool {
 	return to == from || to.integer() && from.integer()
 }
 
+// equals: may values of two types be held against each other? NIL is put into nothing of its own type, but is like itself.
+func equals(a, b *typ) bool { return a == b && a.scalar() || fits(a, b) || fits(b, a) }
+
 // find is what a name stands for; nil: nothing.
 func (c *checker) find(name string) *thing {
 	for s := c.scope; s != nil; s = s.outer {

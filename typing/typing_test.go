@@ -173,7 +173,7 @@ func TestNilType(t *testing.T) {
 	n := api.Face{Name: "N", Types: []api.FaceType{{Form: api.FormPointer, Base: basic(1)}}, Objects: []api.FaceObject{{Class: api.ClassType, Name: "T", Base: basic(6)}, {Class: api.ClassType, Name: "P", Base: own(0)}, {Class: api.ClassProc, Name: "Q", Value: 1, Params: []api.FaceParam{{Base: basic(6)}}}, {Class: api.ClassProc, Name: "V", Value: 2, Params: []api.FaceParam{{Var: true, Base: basic(6)}}}}}
 	bytes, _, _ := symfile.Bytes(n)
 	files := func(string) ([]byte, bool) { return bytes, true }
-	for body, want := range map[string]api.Errno{"x := NIL": api.ErrState, "x := x": api.ErrState, "p := x": 0, "N.Q(NIL)": api.ErrState, "N.Q(x)": api.ErrState, "N.V(x)": api.ErrState, "p^ := 5; NEW(p); INC(p^)": 0, "p.x := 5": api.ErrState, "IF x = NIL THEN END": api.ErrState, "IF x = p THEN END": 0} {
+	for body, want := range map[string]api.Errno{"x := NIL": api.ErrState, "x := x": api.ErrState, "p := x": 0, "N.Q(NIL)": api.ErrState, "N.Q(x)": api.ErrState, "N.V(x)": api.ErrState, "p^ := 5; NEW(p); INC(p^)": 0, "p.x := 5": api.ErrState, "IF x = NIL THEN END": 0, "IF (x # x) OR (NIL = x) THEN END": 0, "IF x = p THEN END": 0, "IF x < x THEN END": api.ErrState, "IF x = 0 THEN END": api.ErrState} {
 		text := "MODULE M; IMPORT N; VAR x: N.T; p: N.P; BEGIN " + body + " END M."
 		_, e := Source([]byte(text), n)
 		m := compile.Source([]byte(text), files)
